@@ -894,6 +894,12 @@ func TestBoardsAtOnce(t *testing.T) {
 			t.Errorf("board %d is another one than board %d", i, i%2)
 		}
 	}
+	checkNoneLeft(t, ahead)
+}
+
+// checkNoneLeft: goroutines that are at their ends may take a moment to be gone.
+func checkNoneLeft(t *testing.T, ahead int) {
+	t.Helper()
 	for range 200 {
 		if runtime.NumGoroutine() <= ahead {
 			return
